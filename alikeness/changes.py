@@ -1,6 +1,30 @@
 """The cheapest steps that make one text of another."""
 
 
+# A row for each place of text, in it for each place of other: the least price of what is left of both from there on.
+# From the ends back: the first way is chosen from the left, and must know there what each step leads to.
+def least_prices(text, other, move, becomes):
+    rows = [[move * (len(other) - place) for place in range(len(other) + 1)]]
+    for byte in reversed(text):
+        rows.append(row_ahead(byte, other, rows[-1], move, becomes))
+    rows.reverse()
+    return rows
+
+
+# The row for the place of byte, made of the row for the place behind it.
+def row_ahead(byte, other, behind, move, becomes):
+    row = [behind[-1] + move]
+    for place in range(len(other) - 1, -1, -1):
+        on_both = behind[place + 1] + (0 if other[place] == byte else becomes)
+        row.append(min(on_both, behind[place] + move, row[-1] + move))
+    row.reverse()
+    return row
+
+
+def least_price(text, other, move, becomes):
+    return least_prices(text, other, move, becomes)[0][0]
+
+
 # One step: the numbers that tell it, its price, and where both texts are gone on from behind it.
 class Step:
     def __init__(self, told, price, place, other_place):
@@ -17,17 +41,16 @@ class Comparison:
         self.other = other
         self.move = move
         self.becomes = becomes
-        # From the ends back: the first way is chosen from the left, and must know there what each step leads to.
-        self.least_from = [[0] * (len(other) + 1) for row in range(len(text) + 1)]
+        self.least_from = least_prices(text, other, move, becomes)
         self.ways_from = [[1] * (len(other) + 1) for row in range(len(text) + 1)]
         for place in range(len(text), -1, -1):
             for other_place in range(len(other), -1, -1):
-                self.reckon(place, other_place)
+                self.reckon_ways(place, other_place)
 
-    def reckon(self, place, other_place):
+    # At both ends no step is left: that is one way.
+    def reckon_ways(self, place, other_place):
         steps = self.cheapest_steps(place, other_place)
         if len(steps) > 0:
-            self.least_from[place][other_place] = self.price_by(steps[0])
             self.ways_from[place][other_place] = sum([self.ways_by(step) for step in steps])
 
     def price_by(self, step):
@@ -37,9 +60,8 @@ class Comparison:
         return self.ways_from[step.place][step.other_place]
 
     def cheapest_steps(self, place, other_place):
-        steps = self.open_steps(place, other_place)
-        least = min([self.price_by(step) for step in steps], default=0)
-        return [step for step in steps if self.price_by(step) == least]
+        least = self.least_from[place][other_place]
+        return [step for step in self.open_steps(place, other_place) if self.price_by(step) == least]
 
     # In the order in which the first way prefers them.
     def open_steps(self, place, other_place):
@@ -58,9 +80,6 @@ class Comparison:
             return Step([0], 0, place + 1, other_place + 1)
         return Step([1, byte], self.becomes, place + 1, other_place + 1)
 
-    def least_price(self):
-        return self.least_from[0][0]
-
     def how_many_ways(self):
         return self.ways_from[0][0]
 
@@ -77,7 +96,7 @@ class Comparison:
 def cheapest_changes(text, other, move, becomes):
     comparison = Comparison(text, other, move, becomes)
     way = comparison.first_way()
-    answer = [comparison.least_price(), comparison.how_many_ways(), len(way)]
+    answer = [comparison.least_from[0][0], comparison.how_many_ways(), len(way)]
     for step in way:
         answer.extend(step.told)
     return answer

@@ -13,3 +13,8 @@ def common_measure(one, other):
 def lowest_terms(above, below):
     measure = common_measure(above, below)
     return [above // measure, below // measure]
+
+
+# Each is two numbers, above and below; what is below is never 0.
+def is_greater(ratio, other):
+    return ratio[0] * other[1] > other[0] * ratio[1]

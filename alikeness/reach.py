@@ -44,7 +44,7 @@ def likeness(taken, astray, length, other_length):
     return lowest_terms(above, 6 * taken * length * other_length)
 
 
-# How many are taken, how many are astray, and how alike.
+# How many are taken, how many are astray, and how alike: a fraction, its two numbers last.
 def reach_likeness(text, other):
     places = places_taken(text, other)
     taken = len([place for place in places if place is not None])

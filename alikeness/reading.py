@@ -8,6 +8,12 @@ SHAPES = (
     ("pieces", 1, 2),
     ("classes", 0, 1),
     ("sounds", 1, 1),
+    ("words", 0, 2),
+    ("keep", 0, 1),
+    ("near", 1, 1),
+    ("sounding", 1, 1),
+    ("likest", 0, 1),
+    ("counts", 0, 0),
 )
 
 

@@ -33,6 +33,35 @@ def sounds(n, text):
     return [5, n] + row(text)
 
 
+def words(text, other):
+    return [6] + row(text) + row(other)
+
+
+def keep(text):
+    return [7] + row(text)
+
+
+def near(k, text):
+    return [8, k] + row(text)
+
+
+def sounding(n, text):
+    return [9, n] + row(text)
+
+
+def likest(text):
+    return [10] + row(text)
+
+
+def counts():
+    return [11]
+
+
+def keep_all(texts):
+    """One call for each text."""
+    return [keep(text) for text in texts]
+
+
 def answers_of(*calls):
     """One list for each call: what it answers, without the count ahead."""
     answered = answers([number for call in calls for number in call])
@@ -49,3 +78,7 @@ def answers_of(*calls):
 
 def answer_of(call):
     return answers_of(call)[0]
+
+
+def last_answer_of(*calls):
+    return answers_of(*calls)[-1]

@@ -2,7 +2,8 @@
 
 import unittest
 
-from tests.helper import answer_of, answers_of, changes, classes, pieces, prices, reach, sounds
+from tests.helper import (answer_of, answers_of, changes, classes, counts, keep, keep_all, last_answer_of, likest, near,
+                          pieces, prices, reach, sounding, sounds, words)
 
 MOST = 4294967295
 LONGEST = [97] * 24
@@ -112,3 +113,118 @@ class Lengths(unittest.TestCase):
         for n in (0, 9, MOST):
             self.assertEqual(answer_of(sounds(n, "robert")), [-1])
             self.assertEqual(answer_of(sounds(n, "")), [-1])
+
+    def test_n_is_one_to_eight_in_sounding_too(self):
+        self.assertEqual(last_answer_of(keep("robert"), sounding(1, "rubin")), [1, 1])
+        self.assertEqual(last_answer_of(keep("robert"), sounding(8, "rupert")), [1, 1])
+        for n in (0, 9, MOST):
+            self.assertEqual(last_answer_of(keep("robert"), sounding(n, "robert")), [-1])
+            self.assertEqual(answer_of(sounding(n, "")), [-1])
+            self.assertEqual(answer_of(sounding(n, TOO_LONG)), [-1])
+
+
+class Words(unittest.TestCase):
+    def test_twenty_four_bytes_and_a_byte_of_255_are_granted(self):
+        self.assertEqual(answer_of(words(LONGEST, LONGEST)), [0, 1, 1])
+        self.assertEqual(answer_of(words(LONGEST, [])), [24, 1, 0])
+        self.assertEqual(answer_of(words([], LONGEST)), [24, 0])
+        self.assertEqual(answer_of(words([255], [255])), [0, 1, 1])
+        self.assertEqual(answer_of(words([32] * 24, [32] * 24)), [0, 0])
+
+    def test_others_are_refused_as_either_text(self):
+        for bad in BAD_TEXTS + ([32] * 25,):
+            for good in ([], [97], LONGEST):
+                for text, other in ((bad, good), (good, bad), (bad, bad)):
+                    self.assertEqual(answer_of(words(text, other)), [-1])
+
+    def test_five_words_are_granted_in_either_text(self):
+        self.assertEqual(answer_of(words("a b c d e", "a")), [4, 5, 1, 0, 0, 0, 0])
+        self.assertEqual(answer_of(words("a", "a b c d e")), [4, 1, 1])
+        self.assertEqual(answer_of(words("  a  b  c  d  e  ", "a b c d e")), [0, 5, 1, 2, 3, 4, 5])
+
+    def test_six_words_and_more_are_refused_in_either_text(self):
+        for many in ("a b c d e f", " a b  c d e f ", "a " * 12):
+            for few in ("", "a", "a b c d e", many):
+                self.assertEqual(answer_of(words(many, few)), [-4])
+                self.assertEqual(answer_of(words(few, many)), [-4])
+
+    def test_a_text_refused_for_its_bytes_is_told_first(self):
+        six = list(b"a b c d e f")
+        for bad in (six + [256], six + [97] * 14, [256, 32] * 6, [97, 32] * 15):
+            for text, other in ((bad, []), ([], bad), (bad, six), (six, bad), (bad, bad)):
+                self.assertEqual(answer_of(words(text, other)), [-1])
+        for bad in BAD_TEXTS:
+            self.assertEqual(answer_of(words(six, bad)), [-1])
+            self.assertEqual(answer_of(words(bad, six)), [-1])
+
+
+class Kept(unittest.TestCase):
+    def test_twenty_four_bytes_are_granted(self):
+        self.assertEqual(answers_of(keep(LONGEST), near(0, LONGEST), sounding(1, LONGEST), likest(LONGEST)),
+                         [[1], [1, 1, 0], [1, 1], [1, 1, 1]])
+
+    def test_a_byte_of_255_is_granted(self):
+        self.assertEqual(answers_of(keep([255]), near(0, [255]), sounding(1, [255]), likest([255])),
+                         [[1], [1, 1, 0], [1, 1], [1, 1, 1]])
+
+    def test_others_are_refused(self):
+        for bad in BAD_TEXTS:
+            for k in (0, 1, MOST):
+                self.assertEqual(answers_of(keep("a"), near(k, bad)), [[1], [-1]])
+            self.assertEqual(answers_of(keep(bad), keep("a"), keep(bad), sounding(1, bad), likest(bad)),
+                             [[-1], [1], [-1], [-1], [-1]])
+
+    def test_near_and_sounding_are_refused_though_nothing_is_kept(self):
+        for bad in BAD_TEXTS:
+            self.assertEqual(answers_of(near(0, bad), sounding(1, bad)), [[-1], [-1]])
+
+    def test_twelve_are_granted_and_no_more(self):
+        self.assertEqual(answers_of(*keep_all("abcdefghijkl"), keep("m"), keep(""), keep("a")),
+                         [[number] for number in range(1, 13)] + [[-6]] * 3)
+
+    def test_a_text_that_is_refused_when_twelve_are_kept(self):
+        for bad in BAD_TEXTS:
+            self.assertEqual(last_answer_of(*keep_all("abcdefghijkl"), keep(bad)), [-1])
+
+    def test_likest_with_nothing_kept(self):
+        for text in ([], [97], LONGEST):
+            self.assertEqual(answer_of(likest(text)), [-3])
+        self.assertEqual(answers_of(keep(TOO_LONG), likest("a"), keep("a"), likest("a")), [[-1], [-3], [1], [1, 1, 1]])
+
+    def test_a_text_that_is_refused_when_nothing_is_kept(self):
+        for bad in BAD_TEXTS:
+            self.assertEqual(answer_of(likest(bad)), [-1])
+
+
+class AllIsAsItWas(unittest.TestCase):
+    HELD = (counts(), near(9, "ab"), likest("ab"), sounding(3, "ab"), words("a", ""))
+
+    def check(self, ahead, refused, told):
+        without = answers_of(*ahead, *self.HELD)
+        answered = answers_of(*ahead, refused, *self.HELD)
+        self.assertEqual(answered[len(ahead)], [told])
+        self.assertEqual(answered[:len(ahead)] + answered[len(ahead) + 1:], without)
+
+    def test_with_two_kept(self):
+        ahead = (prices(2, 3), classes([0, 8] + [4] * 24), keep("ac"), keep("ab"))
+        for refused in (words(TOO_LONG, []), words([], [256]), keep(TOO_LONG), keep([256]), near(9, TOO_LONG),
+                        near(9, [256]), sounding(0, "ab"), sounding(9, "ab"), sounding(3, TOO_LONG),
+                        likest(TOO_LONG), likest([256]), prices(0, 9), prices(9, 10), classes([1] * 25)):
+            self.check(ahead, refused, -1)
+        self.check(ahead, words("a b c d e f", "a"), -4)
+        self.check(ahead, words("a", "a b c d e f"), -4)
+
+    def test_with_twelve_kept(self):
+        ahead = [prices(2, 3)] + keep_all("abcdefghijkl")
+        self.check(ahead, keep("ab"), -6)
+        self.check(ahead, keep(TOO_LONG), -1)
+
+    def test_with_nothing_kept(self):
+        self.check((prices(2, 3),), likest("ab"), -3)
+        self.check((prices(2, 3),), keep([256]), -1)
+
+    def test_what_is_told_behind_refused_ones(self):
+        self.assertEqual(
+            answers_of(keep("ab"), keep(TOO_LONG), prices(10, 9), counts(), near(0, "ab"), keep("ac"), near(1, "ac"),
+                       likest("ac")),
+            [[1], [-1], [-1], [1, 1, 1], [1, 1, 0], [2], [2, 2, 0, 1, 1], [2, 1, 1]])
